@@ -1,0 +1,1 @@
+"""Pausewright: works that hand out and wait, made into machines of rooms."""
