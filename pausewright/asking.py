@@ -1,4 +1,4 @@
-"""What may be asked of works, and the asker, who goes along the deeds of one play."""
+"""What may be asked of works or machines, and the asker, who goes along the deeds of one play."""
 
 from pausewright.errors import BadAsk
 from pausewright.whole import MOST, is_whole
@@ -9,13 +9,13 @@ class Over(Exception):
 
 
 def need_work(works, work):
-    """BadAsk, unless work is the number of one of the works."""
+    """BadAsk, unless work is the number of one of the works (or machines)."""
     if not is_whole(work, 0, len(works) - 1):
         raise BadAsk("there is no such work")
 
 
 def need_ask(works, work, numbers, deeds):
-    """BadAsk, unless the work can be played with these numbers and deeds."""
+    """BadAsk, unless the work (or machine) can be played with these numbers and deeds."""
     need_work(works, work)
     params = works[work][0]
     if len(numbers) != params:
@@ -37,6 +37,18 @@ def is_deed(deed):
             return True
         case _:
             return False
+
+
+def asked(deeds, gone_through):
+    """What is told for each deed; gone_through takes an asker, and returns what has come out at last."""
+    asker = Asker(deeds)
+    if asker.begins():
+        try:
+            asker.see_out(gone_through(asker))
+        except Over:
+            pass
+    asker.do_the_rest()
+    return asker.told
 
 
 class Asker:

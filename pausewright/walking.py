@@ -1,6 +1,6 @@
 """Works are played by going through their trees."""
 
-from pausewright.asking import Asker, Over, need_ask
+from pausewright.asking import asked, need_ask
 from pausewright.reckoning import NoPart, reckoned
 from pausewright.works import need_program
 
@@ -9,14 +9,7 @@ def played(program, work, numbers, deeds):
     """What a work tells for each deed: the words that were said by it, and its outcome."""
     need_program(program)
     need_ask(program, work, numbers, deeds)
-    asker = Asker(deeds)
-    if asker.begins():
-        try:
-            asker.see_out(walked(program, work, numbers, asker))
-        except Over:
-            pass
-    asker.do_the_rest()
-    return asker.told
+    return asked(deeds, lambda asker: walked(program, work, numbers, asker))
 
 
 def walked(program, work, numbers, asker):

@@ -1,6 +1,8 @@
-"""Programs and deeds by a chance that is the same each time."""
+"""Programs, machines and deeds by a chance that is the same each time."""
 
 from random import Random
+
+from tests.rooms_oracle import names_of, put
 
 TWO = ("plus", "less", "times", "part", "below", "same")
 
@@ -79,6 +81,51 @@ class Chance:
         if self.random.random() < 0.6:
             caught = (self.kept(slots), self.body(slots, around, in_round))
         return (word, first, caught, self.body(slots, around, in_round))
+
+    def machines(self, most_rooms=8):
+        """Machines as somebody may type them; they may not come to anything in time."""
+        sizes = []
+        for _ in range(self.random.randint(1, 3)):
+            slots = self.random.randint(1, 6)
+            sizes.append((self.random.randint(0, min(2, slots)), slots))
+        return [(*size, self.rooms(sizes, size[1], most_rooms)) for size in sizes]
+
+    def rooms(self, sizes, slots, most):
+        many = self.random.randint(1, most)
+        return [self.room(sizes, slots, many) for _ in range(many)]
+
+    def room(self, sizes, slots, many):
+        little = tuple(self.little(slots) for _ in range(self.random.randint(0, 2)))
+        caught = None if self.random.random() < 0.4 else (self.kept(slots), self.random.randrange(many))
+        shut = None if self.random.random() < 0.4 else self.random.randrange(many)
+        return (little, self.exit(sizes, slots, many), caught, shut)
+
+    def little(self, slots):
+        word = self.pick("set", "count", "say")
+        e = self.reckoning(slots)
+        return (word, e) if word == "say" else (word, self.random.randrange(slots), e)
+
+    def exit(self, sizes, slots, many):
+        word = self.pick("go", "go", "fork", "fork", "give", "give", "give", "give", "hand", "fault", "end", "shut")
+        rooms = [self.random.randrange(many) for _ in range({"go": 1, "fork": 2, "give": 1, "hand": 1}.get(word, 0))]
+        if word == "hand":
+            w = self.random.randrange(len(sizes))
+            args = tuple(self.reckoning(slots) for _ in range(sizes[w][0]))
+            return (word, w, args, self.kept(slots), *rooms)
+        parts = [self.reckoning(slots)] * (word in ("fork", "give", "fault", "end"))
+        return (word, *parts, *[self.kept(slots)] * (word == "give"), *rooms)
+
+    def copied(self, machine):
+        """The same machine with some rooms more than once, in another order, some that can't be come to with them."""
+        params, slots, rooms = machine
+        copies = [at for at in range(len(rooms)) for _ in range(self.random.randint(1, 3))]
+        self.random.shuffle(copies)
+        copies.insert(0, 0)
+        places = {at: [place for place, of in enumerate(copies) if of == at] for at in range(len(rooms))}
+        told = []
+        for at in copies:
+            told.append(put(rooms[at], [self.random.choice(places[r]) for r in names_of(rooms[at])]))
+        return (params, slots, told)
 
     def numbers(self, many):
         return tuple(self.number() for _ in range(many))

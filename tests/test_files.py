@@ -10,6 +10,10 @@ INTERFACE = {
     "errors.py": {"PauseError": None, "BadWork": None, "BadAsk": None, "BadText": None},
     "works.py": {"need_program": ["program"], "steps_in": ["program", "work"]},
     "walking.py": {"played": ["program", "work", "numbers", "deeds"]},
+    "making.py": {"made": ["program"], "most_rooms": ["program", "work"], "matched": ["program", "one", "other"]},
+    "joining.py": {"joined": ["machine"]},
+    "running.py": {"ran": ["machines", "work", "numbers", "deeds"]},
+    "notes.py": {"written": ["program"], "read": ["text"]},
 }
 
 

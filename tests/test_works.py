@@ -3,6 +3,8 @@
 import unittest
 
 from pausewright.errors import BadAsk, BadWork
+from pausewright.making import made, matched, most_rooms
+from pausewright.notes import written
 from pausewright.walking import played
 from pausewright.works import need_program, steps_in
 from tests.trees import SHUT, alone, deep_reckoning, end, fault, give, num, say, slot, within
@@ -15,6 +17,12 @@ PLACES = (
     lambda program: played(program, 0, (), []),
     lambda program: played(program, 0, (), [("ask", 1)]),
     lambda program: played(program, -1, (1000,), [("give", 1), SHUT]),
+    made,
+    lambda program: most_rooms(program, 0),
+    lambda program: most_rooms(program, 9),
+    lambda program: matched(program, 0, 0),
+    lambda program: matched(program, 9, -1),
+    written,
 )
 
 
